@@ -1,4 +1,4 @@
-"""The errors of the interface."""
+"""The errors of the interface, which the points name."""
 
 import unittest
 

@@ -67,6 +67,7 @@ BAD_PARTS = (
     "= pick 1", "= a1 b1", "= a1 5", "= 5 a1", "= 5 5",
     "= add add 1 2", "= add 1 add 2", "= add add 1 2 3 4", "= add a1 sum b1",
     "a1", "add a1 b1", "sum a1 b1", "add", "a1 =", "5 =", "= a1 =",
+    " a1", "a1 b1", "5 a1", "== a1", "-= a1", "add add a1 b1", "x sum a1 b1",
     "= div 1 2", "= Add 1 2", "= ADD 1 2", "= plus 1 2", "= num 5", "= cell a1", "= add num 5 1",
     "= add cell a1 1", "= None", "= odd", "= max a1 b1", "= add(a1 b1)", "= add a1, b1",
 )
