@@ -5,7 +5,7 @@ import inspect
 import pathlib
 import unittest
 
-from undotable import cells, formulas
+from undotable import cells, deeds, formulas, reckon, tree
 
 PACKAGE = pathlib.Path(cells.__file__).parent
 # What the package may import beside itself; none of it has a clock, chance or files.
@@ -18,6 +18,27 @@ INTERFACE = (
     (formulas, "read", ["text"]),
     (formulas, "text_of", ["content"]),
     (formulas, "read_cells", ["content"]),
+    (reckon, "values", ["contents"]),
+    (reckon, "touched", ["contents", "changed"]),
+    (reckon, "renewed", ["contents", "elder", "changed"]),
+    (deeds, "uses", ["deed"]),
+    (deeds, "changes", ["contents", "deed"]),
+    (deeds, "done", ["contents", "deed"]),
+    (tree, "Tree", ["hands"]),
+)
+
+# Each method of a class of the interface, with its arguments behind self.
+METHODS = (
+    (tree.Tree, "do", ["hand", "deed"]),
+    (tree.Tree, "here", ["hand"]),
+    (tree.Tree, "told", ["point"]),
+    (tree.Tree, "many", []),
+    (tree.Tree, "table", ["point"]),
+    (tree.Tree, "worths", ["point"]),
+    (tree.Tree, "trail", ["point"]),
+    (tree.Tree, "road", ["one", "other"]),
+    (tree.Tree, "go", ["hand", "point"]),
+    (tree.Tree, "stepped", ["contents", "step"]),
 )
 
 
@@ -48,6 +69,12 @@ class Package(unittest.TestCase):
                 function = getattr(module, name)
                 self.assertEqual(function.__module__, module.__name__)
                 self.assertEqual(list(inspect.signature(function).parameters), arguments)
+
+    def test_the_methods_of_the_interface_stand_in_their_classes(self):
+        for kind, name, arguments in METHODS:
+            with self.subTest(name):
+                method = vars(kind)[name]
+                self.assertEqual(list(inspect.signature(method).parameters), ["self"] + arguments)
 
 
 if __name__ == "__main__":
