@@ -5,7 +5,7 @@ import inspect
 import pathlib
 import unittest
 
-from undotable import cells, deeds, formulas, reckon, tree
+from undotable import cells, deeds, formulas, joining, middle, notes, reckon, tree
 
 PACKAGE = pathlib.Path(cells.__file__).parent
 # What the package may import beside itself; none of it has a clock, chance or files.
@@ -25,6 +25,12 @@ INTERFACE = (
     (deeds, "changes", ["contents", "deed"]),
     (deeds, "done", ["contents", "deed"]),
     (tree, "Tree", ["hands"]),
+    (middle, "leans", ["tree", "point"]),
+    (middle, "reads", ["tree", "point"]),
+    (middle, "without", ["tree", "hand", "gone", "point", "falls"]),
+    (joining, "joined", ["tree", "hand", "one", "other"]),
+    (notes, "written", ["tree"]),
+    (notes, "read", ["text"]),
 )
 
 # Each method of a class of the interface, with its arguments behind self.

@@ -3,52 +3,13 @@
 import random
 import unittest
 
+from given import Checked, all_told, forked, some_deed, table, ways_from
 from undotable import errors
 from undotable.deeds import done
-from undotable.formulas import read
 from undotable.reckon import values
 from undotable.tree import Tree
 
 NO_CELLS = ("", "a", "a0", "g1", "A1", "a10", "1a", "a1 ", "a\u0661")
-
-
-def table(**texts):
-    """Contents by the texts of their cells."""
-    return {cell: read(text) for cell, text in texts.items()}
-
-
-def forked():
-    """A tree of two hands: 0-1-2-3, 4 and 5 behind 1, 6 behind 0; hand 0 at 6, hand 1 at 5."""
-    tree = Tree(2)
-    tree.do(0, ("set", "a1", "5"))
-    tree.do(0, ("set", "b1", "= a1"))
-    tree.do(0, ("swap", "a1", "c1"))
-    tree.go(1, 1)
-    tree.do(1, ("fill", "a1", 2))
-    tree.do(1, ("set", "a1", ""))
-    tree.go(0, 0)
-    tree.do(0, ("set", "f9", "-7"))
-    return tree
-
-
-def all_told(tree, hands):
-    """All that a tree tells."""
-    points = range(tree.many())
-    return (
-        [tree.here(hand) for hand in range(hands)],
-        [tree.told(point) for point in points if point > 0],
-        [tree.table(point) for point in points],
-        [tree.worths(point) for point in points],
-        [tree.trail(point) for point in points],
-        [tree.road(one, other) for one in points for other in points],
-    )
-
-
-class Checked(unittest.TestCase):
-    def assert_refused(self, kind, work, *given):
-        with self.assertRaises(errors.TableError) as caught:
-            work(*given)
-        self.assertIs(type(caught.exception), kind)
 
 
 class Hands(Checked):
@@ -367,15 +328,6 @@ class ToldIsNew(Checked):
 
 
 class ManyTrees(Checked):
-    def some_deed(self, chance):
-        cells = [column + row for column in "abc" for row in "1236"]
-        texts = ("", "5", "= a1", "= sum a1 b3", "= add c2 -4", "= pick a1 b2 c3 a6", "= b6")
-        return chance.choice([
-            ("set", chance.choice(cells), chance.choice(texts)),
-            ("swap", chance.choice(cells), chance.choice(cells)),
-            ("fill", chance.choice(cells), chance.randrange(0, 5)),
-        ])
-
     def test_trees_of_eighty_points_as_by_the_long_way(self):
         chance = random.Random(9)
         for hands in (1, 2, 3, 4):
@@ -385,7 +337,7 @@ class ManyTrees(Checked):
                 if chance.randrange(4) == 0:
                     stands[hand] = chance.randrange(len(tables))
                     tree.go(hand, stands[hand])
-                deed = self.some_deed(chance)
+                deed = some_deed(chance)
                 try:
                     behind = done(tables[stands[hand]], deed)
                 except errors.OffTable:
@@ -405,26 +357,13 @@ class ManyTrees(Checked):
             self.assertEqual(tree.table(point), contents)
             self.assertEqual(tree.worths(point), values(contents))
         for one in range(0, len(tables), 3):
-            ways = self.ways_from(origins, one)
+            ways = ways_from(origins, one)
             for other in range(len(tables)):
                 self.assertEqual(tree.road(one, other), ways[other])
                 contents = tables[one]
                 for step in ways[other]:
                     contents = tree.stepped(contents, step)
                 self.assertEqual(contents, tables[other])
-
-    def ways_from(self, origins, start):
-        """The fewest steps from a point to each one, by going ever further from it."""
-        ways, border = {start: []}, [start]
-        while border:
-            point = border.pop(0)
-            near = [(origins[point], ("back", point))] if point > 0 else []
-            near += [(k, ("forth", k)) for k, origin in enumerate(origins) if origin == point]
-            for there, step in near:
-                if there not in ways:
-                    ways[there] = ways[point] + [step]
-                    border.append(there)
-        return ways
 
 
 if __name__ == "__main__":
