@@ -45,6 +45,33 @@ def plain_joined(tree, one, other):
     return out, pairs
 
 
+def tree_near_the_end(chance):
+    """A tree of two hands where contents soon leave the table where they are filled."""
+    tree = Tree(3)
+    while tree.many() < 14:
+        hand = chance.randrange(2)
+        deed = chance.choice([
+            ("set", chance.choice(["a1", "b1"]), chance.choice(["= b9", "= add 1 sum a8 b2"])),
+            ("set", chance.choice(["a1", "b1"]), chance.choice(["5", "= a1", ""])),
+            ("fill", chance.choice(["a1", "b1"]), chance.choice([1, 2])),
+            ("swap", "a1", chance.choice(["a2", "b1"])),
+        ])
+        try:
+            tree.do(hand, deed)
+        except errors.OffTable:
+            pass
+    return tree
+
+
+def is_refused(contents, deed):
+    """Whether a deed is refused where there are these contents."""
+    try:
+        done(contents, deed)
+    except errors.OffTable:
+        return True
+    return False
+
+
 class Fork(Checked):
     def test_two_branches(self):
         tree = forked()
@@ -264,6 +291,17 @@ class Joined(Checked):
         for _ in range(300):
             tree = some_tree(chance, 3, 30)
             self.assert_joined(tree, chance.randrange(3), chance.randrange(30), chance.randrange(30))
+
+    def test_trees_in_which_fills_would_be_refused(self):
+        chance = random.Random(18)
+        refused = 0
+        for _ in range(300):
+            tree = tree_near_the_end(chance)
+            one, other = tree.here(0), tree.here(1)
+            refused += any([
+                is_refused(tree.table(one), tree.told(point)[2]) for point in plain_joined(tree, one, other)[0]])
+            self.assert_joined(tree, 2, one, other)
+        self.assertGreater(refused, 10)
 
     def assert_joined(self, tree, hand, one, other):
         out, behind = plain_joined(tree, one, other)
